@@ -1,0 +1,1 @@
+"""Savedback: worlds that are taken back and stepped again."""
