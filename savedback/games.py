@@ -27,6 +27,14 @@ def is_world(sizes, value):
     return all([is_number(item, 0, size - 1) for item, size in zip(value, sizes)])
 
 
+def all_worlds(sizes):
+    """Return the ascending list of the worlds of a game with these sizes."""
+    worlds = [()]
+    for size in sizes:
+        worlds = [world + (value,) for world in worlds for value in range(size)]
+    return worlds
+
+
 def is_expression(sizes, value, room=MAX_DEEP):
     """Return whether value is an expression with at most room expressions in one another."""
     if room == 0:

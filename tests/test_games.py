@@ -1,41 +1,13 @@
 """Games: game_error for games and for all else, each_statement for games."""
 
-import copy
 import itertools
 import unittest
 
 from savedback.games import each_statement, game_error
-
-EXAMPLE = (
-    (2, 3), 2, (0, 0),
-    (
-        ("set", 1, ("plus", ("field", 1), "key")),
-        ("if", ("same", "key", 1), (("set", 0, ("minus", 1, ("field", 0))),), ()),
-    ),
-)
-
-# Each kind of statement, expression and test, with blocks in both blocks.
-FULL = (
-    (2, 2, 3), 3, (1, 0, 2),
-    (
-        ("set", 2, ("plus", ("times", -3, ("field", 2)), "key")),
-        (
-            "if", ("not", ("not", ("less", ("field", 1), ("minus", "key", 1)))),
-            (("stop",), ("if", ("same", 1, "key"), (), (("set", 0, 1),))),
-            (("set", 1, ("field", 0)),),
-        ),
-        ("stop",),
-    ),
-)
+from tests.samples import EXAMPLE, FULL, GAMES, ODD_VALUES, CallCase, drawn_games, parts, replaced
 
 STOP = ("stop",)
 SAME = ("same", "key", 0)
-
-# What no statement, expression, test, number or tuple of numbers is.
-ODD_VALUES = (
-    None, True, False, 10 ** 59, -(10 ** 59), "", "set", "stop", "keys", "two\nlines", (), (None,), ((),),
-    [], ["key"], {}, {"key": ()}, {0: "set"}, ("field",), ("field", 9), ("set",), ("if",), ("stop", 0),
-)
 
 
 def if_of(yes=(), no=()):
@@ -78,21 +50,6 @@ def not_of(count):
     return test
 
 
-def parts(value, path=()):
-    """Each part of a value behind the path to it, the value itself first."""
-    yield path, value
-    if isinstance(value, tuple):
-        for index, item in enumerate(value):
-            yield from parts(item, path + (index,))
-
-
-def replaced(value, path, part):
-    if not path:
-        return part
-    index = path[0]
-    return value[:index] + (replaced(value[index], path[1:], part),) + value[index + 1:]
-
-
 def statements_of(block, depth=0):
     """The rows (depth, statement) of a block in order, written as the document tells it."""
     rows = []
@@ -128,14 +85,9 @@ def fault_at(game, path):
     return (places[-1], "statement")
 
 
-class GameCase(unittest.TestCase):
+class GameCase(CallCase):
     def check(self, value, expected):
-        """Compare as text too, since 0 and False are equal."""
-        before = copy.deepcopy(value)
-        first, second = game_error(value), game_error(value)
-        self.assertEqual(repr(first), repr(expected), value)
-        self.assertEqual(repr(second), repr(expected), value)
-        self.assertEqual(repr(value), repr(before))
+        self.check_call(expected, game_error, value)
 
     def check_all(self, values, expected):
         for value in values:
@@ -150,7 +102,8 @@ class Games(GameCase):
         self.assertEqual(repr(told), "[None, [(0, 0), (1, 0), (2, 1)], (None, 'first'), (0, 'statement')]")
 
     def test_the_games_of_these_tests(self):
-        self.check_all((EXAMPLE, FULL, game_of()), None)
+        self.check_all(GAMES + (game_of(),), None)
+        self.check_all(drawn_games(200), None)
 
     def test_sizes_at_the_bounds(self):
         for sizes in ((2,), (6,), (2, 2, 2, 3), (2, 2, 2, 2), (6, 4), (4, 6), (2, 3, 4), (6, 2, 2), (3, 2, 2, 2)):

@@ -2,6 +2,7 @@
 
 import ast
 import importlib
+import inspect
 import pathlib
 import unittest
 
@@ -15,6 +16,23 @@ LISTED = {
         "NoField", "NoVersion",
     ),
     "games": ("game_error", "each_statement"),
+    "steps": ("step", "walk", "reached", "way_to", "told_by"),
+    "pairs": ("unlike_for", "table", "table_holds"),
+    "plans": ("plan_error", "taken_back", "tried"),
+}
+
+# How the functions are called, in the words of the document.
+CALLS = {
+    "games": ("game_error(value)", "each_statement(game)"),
+    "steps": (
+        "step(game, world, key)", "walk(game, world, keys)", "reached(game)", "way_to(game, world)",
+        "told_by(game, field, others)",
+    ),
+    "pairs": ("unlike_for(game, one, other)", "table(game)", "table_holds(game, value)"),
+    "plans": (
+        "plan_error(game, value)", "taken_back(game, plan, old, now)",
+        "tried(game, plan, ahead, guessed, keys)",
+    ),
 }
 
 
@@ -31,6 +49,12 @@ class Interface(unittest.TestCase):
                 with self.subTest(module=module, name=name):
                     self.assertIn(name, defined_in(module))
                     self.assertEqual(getattr(loaded, name).__module__, "savedback." + module)
+
+    def test_each_function_takes_what_is_listed(self):
+        for module, calls in CALLS.items():
+            loaded = importlib.import_module("savedback." + module)
+            told = [name + str(inspect.signature(getattr(loaded, name))) for name in LISTED[module]]
+            self.assertEqual(told, list(calls))
 
 
 if __name__ == "__main__":
