@@ -9,9 +9,7 @@ def unlike_for(game, one, other):
 
     It is -1 if they are the same, and None if there is no greatest one.
     """
-    if one == other:
-        return -1
-    return _greatest(_pairs_behind(game))[_pair(one, other)]
+    return _number(_greatest(pairs_behind(all_steps(game))), one, other)
 
 
 def table(game):
@@ -27,22 +25,33 @@ def table_holds(game, value):
     return all([_is_row(game[0], item, row) for item, row in zip(value, rows)])
 
 
-def _pair(one, other):
+def all_unlike(steps):
+    """Return the unlike_for of each two worlds, in either order; steps are those of all worlds."""
+    greatest = _greatest(pairs_behind(steps))
+    return {(one, other): _number(greatest, one, other) for one in steps for other in steps}
+
+
+def pair_of(one, other):
     """Return the pair of two worlds, the lesser one first, or None if they are the same."""
     if one == other:
         return None
     return (min(one, other), max(one, other))
 
 
-def _pairs_behind(game):
+def pairs_behind(steps):
     """Return for each pair, in ascending order, the pairs behind a step by key."""
-    steps = all_steps(game)
     behind = {}
     for one in steps:
         for other in steps:
             if one < other:
-                behind[(one, other)] = [_pair(left, right) for left, right in zip(steps[one], steps[other])]
+                behind[(one, other)] = [pair_of(left, right) for left, right in zip(steps[one], steps[other])]
     return behind
+
+
+def _number(greatest, one, other):
+    if one == other:
+        return -1
+    return greatest[pair_of(one, other)]
 
 
 def _greatest(behind):
@@ -64,7 +73,7 @@ def _greatest(behind):
 
 def _rows(game):
     """Return (one, other, n, right) for each pair, with the list of what its key may be."""
-    behind = _pairs_behind(game)
+    behind = pairs_behind(all_steps(game))
     greatest = _greatest(behind)
     rows = []
     for pair in behind:

@@ -33,22 +33,40 @@ def walk(game, world, keys):
 
 def reached(game):
     """Return the ascending tuple of the worlds that are reached."""
-    return tuple(sorted(_ways(game)))
+    return tuple(sorted(all_ways(game)))
 
 
 def way_to(game, world):
     """Return the first one of the shortest rows of keys to the world, or None."""
-    return _ways(game).get(world)
+    return all_ways(game).get(world)
 
 
 def told_by(game, field, others):
     """Return the pairs that tell the field by the others in what is reached, or None."""
     told = {}
-    for world in _ways(game):
+    for world in all_ways(game):
         values = tuple([world[other] for other in others])
         if told.setdefault(values, world[field]) != world[field]:
             return None
     return tuple(sorted(told.items()))
+
+
+def all_ways(game):
+    """Return the way_to of each world that is reached, in the order of their ways."""
+    ways = {game[2]: ()}
+    newest = [game[2]]
+    # The worlds of a round stand in the order of their ways, which have the same length.
+    # So the first way that is found to a world is the one that is asked for.
+    while newest:
+        found = []
+        for world in newest:
+            for key in range(game[1]):
+                after = step(game, world, key)
+                if after not in ways:
+                    ways[after] = ways[world] + (key,)
+                    found.append(after)
+        newest = found
+    return ways
 
 
 def all_steps(game):
@@ -85,21 +103,3 @@ def _is_true(test, values, key):
     if test[0] == "less":
         return left < right
     return left == right
-
-
-def _ways(game):
-    """Return the way_to of each world that is reached."""
-    ways = {game[2]: ()}
-    newest = [game[2]]
-    # The worlds of a round stand in the order of their ways, which have the same length.
-    # So the first way that is found to a world is the one that is asked for.
-    while newest:
-        found = []
-        for world in newest:
-            for key in range(game[1]):
-                after = step(game, world, key)
-                if after not in ways:
-                    ways[after] = ways[world] + (key,)
-                    found.append(after)
-        newest = found
-    return ways

@@ -163,6 +163,37 @@ def drawn_games(count):
     return [drawn_game(seed) for seed in range(count)]
 
 
+def made(expression):
+    return ("made", expression)
+
+
+def drawn_plan(numbers, game):
+    """A plan in which expressions have only integers and the fields that it keeps."""
+    kinds = [numbers.one_of(("kept", "stays", "made")) for _ in game[0]]
+    kept = [field for field, kind in enumerate(kinds) if kind == "kept"]
+    return tuple(made(drawn_made(numbers, kept)) if kind == "made" else kind for kind in kinds)
+
+
+def drawn_made(numbers, kept):
+    expression = drawn_expression(numbers, kept or (0,), key=False)
+    for path, part in list(parts(expression)):
+        if isinstance(part, tuple) and part[0] == "field":
+            expression = replaced(expression, path, ("field", numbers.one_of(kept)) if kept else 7)
+    return expression
+
+
+def drawn_row(numbers, game, length):
+    return tuple(numbers.below(game[1]) for _ in range(length))
+
+
+def value_back(game, way, field, old, now):
+    if way == "kept":
+        return old[field]
+    if way == "stays":
+        return now[field]
+    return eval(python_of(way[1]), {"v": old}) % game[0][field]
+
+
 def worlds_of(game):
     return list(itertools.product(*map(range, game[0])))
 

@@ -19,6 +19,9 @@ LISTED = {
     "steps": ("step", "walk", "reached", "way_to", "told_by"),
     "pairs": ("unlike_for", "table", "table_holds"),
     "plans": ("plan_error", "taken_back", "tried"),
+    "depths": ("depths", "is_safe", "is_safe_within", "failing"),
+    "needs": ("plan_of", "needed", "cheapest"),
+    "makings": ("made_of", "unlike_games"),
 }
 
 # How the functions are called, in the words of the document.
@@ -33,6 +36,12 @@ CALLS = {
         "plan_error(game, value)", "taken_back(game, plan, old, now)",
         "tried(game, plan, ahead, guessed, keys)",
     ),
+    "depths": (
+        "depths(game, plan)", "is_safe(game, plan, depth)", "is_safe_within(game, plan, low, high)",
+        "failing(game, plan, depth)",
+    ),
+    "needs": ("plan_of(game, lot)", "needed(game, low, high)", "cheapest(game, costs, low, high)"),
+    "makings": ("made_of(game, field, lot)", "unlike_games(one, other)"),
 }
 
 

@@ -6,42 +6,12 @@ import unittest
 from savedback.plans import plan_error, taken_back, tried
 from savedback.steps import walk
 from tests.samples import COUNT, EXAMPLE, FULL, GAMES, ODD_VALUES, SINK, STILL, SWAP, TURN, WHEEL
-from tests.samples import CallCase, Numbers, drawn_expression, drawn_games, parts, python_of, python_step, replaced, worlds_of
+from tests.samples import CallCase, Numbers, drawn_games, drawn_plan, drawn_row, made, parts, python_step
+from tests.samples import replaced, value_back, worlds_of
 
 FOUR = ((2, 2, 2, 3), 2, (0, 0, 0, 0), (("set", 3, ("plus", ("field", 0), "key")),))
 
 FIELD = ("field", 0)
-
-
-def made(expression):
-    return ("made", expression)
-
-
-def drawn_plan(numbers, game):
-    """A plan in which expressions have only integers and the fields that it keeps."""
-    kinds = [numbers.one_of(("kept", "stays", "made")) for _ in game[0]]
-    kept = [field for field, kind in enumerate(kinds) if kind == "kept"]
-    return tuple(made(drawn_made(numbers, kept)) if kind == "made" else kind for kind in kinds)
-
-
-def drawn_made(numbers, kept):
-    expression = drawn_expression(numbers, kept or (0,), key=False)
-    for path, part in list(parts(expression)):
-        if isinstance(part, tuple) and part[0] == "field":
-            expression = replaced(expression, path, ("field", numbers.one_of(kept)) if kept else 7)
-    return expression
-
-
-def drawn_row(numbers, game, length):
-    return tuple(numbers.below(game[1]) for _ in range(length))
-
-
-def value_back(game, way, field, old, now):
-    if way == "kept":
-        return old[field]
-    if way == "stays":
-        return now[field]
-    return eval(python_of(way[1]), {"v": old}) % game[0][field]
 
 
 class Example(unittest.TestCase):
