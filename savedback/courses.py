@@ -57,7 +57,7 @@ def failing_sets(course, plan):
                 sets[old] = sets.get(old, 0) | course.bits[now]
     rows = [ever]
     # What is unlike behind n keys was so behind fewer ones.
-    for n in reversed(range(max(ending, default=-1) + 1)):
+    for n in reversed(range(max(list(ending), default=-1) + 1)):
         sets = ending.get(n, {})
         rows.append({old: rows[-1][old] | sets.get(old, 0) for old in ever})
     return rows[::-1]

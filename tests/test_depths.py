@@ -8,8 +8,8 @@ from savedback.plans import tried
 from savedback.steps import way_to
 from tests.samples import COUNT, GAMES, SINK, STILL, SWAP, TURN, WHEEL
 from tests.samples import CallCase, Numbers, drawn_games, drawn_plan, made
-from tests.tries import BY_KEYS, DROP, DROP_AND_TURN, F0, LAMP, NEVER, OWN_GAMES, ROUNDS, SKIP, THREE_TURNS
-from tests.tries import Tries, fails_by_rows, gaps
+from tests.tries import BY_KEYS, DROP, DROP_AND_TURN, F0, LAMP, LEAP, LOCK, NEVER, OWN_GAMES, ROUNDS, SKIP, TAIL
+from tests.tries import THREE_TURNS, Tries, fails_by_rows, gaps
 
 ALL_SAFE = ((), 0, 1, ())
 
@@ -37,6 +37,7 @@ def small_games(count):
 
 # A game and a plan for each kind of depths.
 KINDS = (
+    (LEAP, ("stays",), ((1, 2), 3, 1, ())),
     (DROP, ("stays", "stays"), ((1, 2, 3, 4, 5), 6, 1, ())),
     (DROP, ("kept", "stays"), ((1, 2, 3, 4, 5, 6), 7, 1, ())),
     (DROP_AND_TURN, ("stays", "stays"), ((1, 2), 3, 2, (1,))),
@@ -46,6 +47,8 @@ KINDS = (
     (gaps(5), ("kept", "stays", "kept"), ((5, 6, 10, 11, 12, 15, 16, 17, 18), 20, 1, (0,))),
     (gaps(4), ("kept", "stays", "kept"), ((), 3, 2, (0,))),
     (gaps(3), ("kept", "stays", "kept"), ((), 1, 3, (0,))),
+    (TAIL, ("stays",), ((), 0, 5, (1, 2, 3, 4))),
+    (LOCK, ("stays", "kept"), ((), 1, 1, (0,))),
     (SINK, ("stays", "stays", "stays"), (tuple(range(1, 23)), 23, 1, ())),
     (LAMP, ("kept", "kept", "stays"), ((), 1, 1, (0,))),
     (TURN, ("stays",), ((), 0, 2, (1,))),

@@ -8,7 +8,7 @@ import unittest
 
 PACKAGE = pathlib.Path(__file__).resolve().parent.parent / "savedback"
 
-# What has landed of the interface's functions and classes.
+# The interface's functions and classes.
 LISTED = {
     "errors": (
         "SaveError", "BadText", "BadGame", "BadPlan", "BadWorld", "BadDepths", "Unsafe", "Busy",
@@ -22,6 +22,10 @@ LISTED = {
     "depths": ("depths", "is_safe", "is_safe_within", "failing"),
     "needs": ("plan_of", "needed", "cheapest"),
     "makings": ("made_of", "unlike_games"),
+    "counting": ("failures", "is_safe_shared"),
+    "texts": ("game_text", "parse_game"),
+    "benches": ("Bench", "SafeBench"),
+    "consoles": ("Console",),
 }
 
 # How the functions are called, in the words of the document.
@@ -42,7 +46,21 @@ CALLS = {
     ),
     "needs": ("plan_of(game, lot)", "needed(game, low, high)", "cheapest(game, costs, low, high)"),
     "makings": ("made_of(game, field, lot)", "unlike_games(one, other)"),
+    "counting": ("failures(game, plan, old, depth)", "is_safe_shared(game, plan, same, rest)"),
+    "texts": ("game_text(game)", "parse_game(value)"),
+    "benches": ("Bench(game, plan=None)", "SafeBench(game, plan=None, low=0, high=None)"),
+    "consoles": ("Console(bench)",),
 }
+
+# How the methods are called, and those that are called by signs.
+METHODS = (
+    "keep(field)", "leave(field)", "make(field, expression)", "turn(one, other)", "undo()", "redo()",
+    "attempt(edits, *, watch=None)", "depths()", "first_unsafe(low, high)", "back(old, now)",
+    "state(*, version=None)", "edits()",
+)
+
+SIGNS = ("__init__", "__getitem__", "__setitem__", "__iadd__", "__isub__", "__len__", "__str__", "__eq__")
+
 
 
 def defined_in(module):
@@ -64,6 +82,31 @@ class Interface(unittest.TestCase):
             loaded = importlib.import_module("savedback." + module)
             told = [name + str(inspect.signature(getattr(loaded, name))) for name in LISTED[module]]
             self.assertEqual(told, list(calls))
+
+    def test_each_class_has_its_own_methods(self):
+        """What is inherited alone is not enough."""
+        for name in ("Bench", "SafeBench"):
+            held = vars(getattr(importlib.import_module("savedback.benches"), name))
+            for sign in SIGNS:
+                self.assertIn(sign, held, name)
+            for call in METHODS:
+                word = call[:call.index("(")]
+                self.assertIn(word, held, name)
+                parameters = str(inspect.signature(held[word])).replace("(self, ", "(").replace("(self)", "()")
+                self.assertEqual(word + parameters, call)
+        console = vars(importlib.import_module("savedback.consoles").Console)
+        self.assertEqual(str(inspect.signature(console["execute"])), "(self, line)")
+
+    def test_a_safe_bench_is_a_bench(self):
+        benches = importlib.import_module("savedback.benches")
+        self.assertEqual(benches.SafeBench.__bases__, (benches.Bench,))
+        self.assertEqual((benches.Bench.MOST_EDITS, benches.SafeBench.MOST_EDITS), (60, 60))
+
+    def test_attributes_are_set_when_an_object_is_created(self):
+        benches = importlib.import_module("savedback.benches")
+        game = ((2,), 1, (0,), ())
+        self.assertLessEqual({"game", "plan"}, set(vars(benches.Bench(game))))
+        self.assertLessEqual({"game", "plan", "low", "high"}, set(vars(benches.SafeBench(game))))
 
 
 if __name__ == "__main__":

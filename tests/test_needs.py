@@ -47,7 +47,21 @@ TWINS = (
     ),
 )
 
-OTHERS = (CHAIN, QUIET, SPREAD, THREE_COPIES, TWINS)
+# Field 0 and fields 1 and 2 both tell the time. If they are one step apart, the earlier one is
+# right. So behind one key it will do to keep either.
+CLOCKS = (
+    (4, 2, 2), 1, (0, 0, 0),
+    (
+        when(("same", ("plus", ("times", 2, F1), F2), ("minus", F0, 1)), ("set", 0, ("minus", F0, 1))),
+        when(("same", ("plus", ("times", 2, F1), F2), ("plus", F0, 3)), ("set", 0, 3)),
+        ("set", 0, ("plus", F0, 1)),
+        ("set", 1, 0),
+        when(("less", 1, F0), ("set", 1, 1)),
+        ("set", 2, F0),
+    ),
+)
+
+OTHERS = (CLOCKS, CHAIN, QUIET, SPREAD, THREE_COPIES, TWINS)
 
 STRETCHES = ((0, 0), (1, 1), (2, 2), (0, 1), (1, 3), (6, 6), (6, 9), (0, None), (1, None), (7, None), (END, END), (END, None), (0, END))
 
@@ -149,6 +163,7 @@ class Needed(CallCase):
         self.check(THREE_COPIES, 1, None, ((0, 1), (0, 2), (1, 2)))
         self.check(THREE_COPIES, 5, 5, ((0, 1), (0, 2), (1, 2)))
         self.check(THREE_COPIES, 0, 0, ((),))
+        self.check(CLOCKS, 1, 1, ((0,), (1, 2)))
 
     def test_a_greater_lot_that_will_not_do(self):
         self.check(DROP, 6, 6, ((),))
@@ -189,6 +204,9 @@ class Cheapest(CallCase):
         self.check(THREE_COPIES, (9, 7, 5), 1, None, (12, (1, 2)))
         self.check(THREE_COPIES, (5, 99, 98), 1, None, (103, (0, 2)))
         self.check(THREE_COPIES, (99, 99, 99), 1, None, (198, (0, 1)))
+        self.check(CLOCKS, (5, 2, 2), 1, 1, (4, (1, 2)))
+        self.check(CLOCKS, (4, 2, 2), 1, 1, (4, (0,)))
+        self.check(CLOCKS, (3, 2, 2), 1, 1, (3, (0,)))
         self.check(CHAIN, (99, 99, 99, 99), 0, None, (297, (1, 2, 3)))
         self.check(CHAIN, (1, 2, 3, 4), 2, 2, (7, (2, 3)))
         self.check(SKIP, (99, 99), 1, None, (198, (0, 1)))

@@ -21,6 +21,26 @@ ROUNDS = {size: ((size,), 1, (0,), (("set", 0, ("plus", F0, 1)),)) for size in r
 ROUNDS[12] = ((2, 6), 1, (0, 0), NEXT)
 ROUNDS[24] = ((4, 6), 1, (0, 0), NEXT)
 
+# Key 0 counts down, key 1 sets the greatest number.
+LEAP = (
+    (4,), 2, (0,),
+    (("if", ("same", "key", 1), (("set", 0, 3),), (when(("less", 0, F0), ("set", 0, ("minus", F0, 1))),)),),
+)
+
+# The first world leads into a round of five others.
+TAIL = ((6,), 1, (0,), (("set", 0, ("plus", F0, 1)), when(("same", F0, 0), ("set", 0, 1))))
+
+# Key 2 sets field 0. What is unlike in it stays so only along 0, 0 and 1, 1.
+LOCK = (
+    (2, 3), 3, (0, 0),
+    (
+        when(("same", "key", 2), ("set", 0, 1), ("set", 1, 0), ("stop",)),
+        when(("same", F1, 0), ("set", 1, ("plus", "key", 1)), ("stop",)),
+        when(("not", ("same", F1, ("plus", "key", 1))), ("set", 0, 0)),
+        ("set", 1, 0),
+    ),
+)
+
 # Seven worlds are counted down; key 1 sets the greatest one.
 DROP = (
     (2, 4), 2, (0, 0),
@@ -101,7 +121,7 @@ NEVER = ((3,), 2, (0,), (when(("same", F0, 0), ("set", 0, ("times", 2, "key"))),
 
 OWN_GAMES = (
     tuple(ROUNDS.values())
-    + (DROP, DROP_AND_TURN, THREE_TURNS, SKIP, gaps(5), gaps(4), gaps(3), LAMP, BY_KEYS, NEVER)
+    + (LEAP, TAIL, LOCK, DROP, DROP_AND_TURN, THREE_TURNS, SKIP, gaps(5), gaps(4), gaps(3), LAMP, BY_KEYS, NEVER)
 )
 
 
